@@ -1,0 +1,1 @@
+"""Hueshare: fewest hues by shares."""

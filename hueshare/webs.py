@@ -1,0 +1,73 @@
+"""Webs: what is one, what is a place or a set of places of it, and which places are tied."""
+
+from hueshare.errors import NoPlace, NoWeb
+
+MOST_PLACES = 10
+
+
+def is_whole(thing):
+    # Python counts True and False among its ints.
+    return isinstance(thing, int) and not isinstance(thing, bool)
+
+
+def is_place(n, thing):
+    return is_whole(thing) and 0 <= thing < n
+
+
+def are_places(n, things):
+    return all([is_place(n, thing) for thing in things])
+
+
+def is_rising(things):
+    return all([things[k - 1] < things[k] for k in range(1, len(things))])
+
+
+def is_set(n, thing):
+    # Only what is known to be made of places can be compared, so rising is asked last.
+    return isinstance(thing, tuple) and are_places(n, thing) and is_rising(thing)
+
+
+def are_ties(n, thing):
+    # A tie has its lesser place first, so it is a set of two places.
+    if not isinstance(thing, tuple):
+        return False
+    return all([is_set(n, tie) and len(tie) == 2 for tie in thing]) and is_rising(thing)
+
+
+def is_web(thing):
+    if not isinstance(thing, tuple) or len(thing) != 2:
+        return False
+    n = thing[0]
+    return is_whole(n) and 0 <= n <= MOST_PLACES and are_ties(n, thing[1])
+
+
+def need_web(thing):
+    if not is_web(thing):
+        raise NoWeb("this is no web")
+
+
+def need_place(web, thing):
+    if not is_place(web[0], thing):
+        raise NoPlace("this is no place of the web")
+
+
+def need_set(web, thing):
+    if not is_set(web[0], thing):
+        raise NoPlace("this is no rising set of places of the web")
+
+
+def has_tie(web, one, other):
+    return (min(one, other), max(one, other)) in web[1]
+
+
+def are_tied(web, one, other):
+    need_web(web)
+    need_place(web, one)
+    need_place(web, other)
+    return has_tie(web, one, other)
+
+
+def neighbours(web, place):
+    need_web(web)
+    need_place(web, place)
+    return tuple([other for other in range(web[0]) if has_tie(web, place, other)])
