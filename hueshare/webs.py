@@ -1,6 +1,6 @@
 """Webs: what is one, what is a place or a set of places of it, and which places are tied."""
 
-from hueshare.errors import NoPlace, NoWeb
+from hueshare.errors import NoNumber, NoPlace, NoWeb, TooMany
 
 MOST_PLACES = 10
 
@@ -54,6 +54,32 @@ def need_place(web, thing):
 def need_set(web, thing):
     if not is_set(web[0], thing):
         raise NoPlace("this is no rising set of places of the web")
+
+
+def need_from_to(least, most, thing):
+    if not is_whole(thing) or not least <= thing <= most:
+        raise NoNumber(f"this is no number from {least} to {most}")
+
+
+def need_few(n):
+    if n > MOST_PLACES:
+        raise TooMany("a web has at most ten places")
+
+
+def pairs(n):
+    # As Python sorts: so the ties that are picked from them rise.
+    found = []
+    for one in range(n):
+        found.extend([(one, other) for other in range(one + 1, n)])
+    return found
+
+
+def all_sets(n):
+    # Each set stands behind all the parts of it.
+    found = [()]
+    for place in range(n):
+        found = found + [some + (place,) for some in found]
+    return found
 
 
 def has_tie(web, one, other):
