@@ -1,6 +1,6 @@
 """Whole hues: the fewest, and the floors that show that no fewer do."""
 
-from hueshare.webs import all_sets, has_tie, is_set, is_whole, need_web
+from hueshare.webs import all_sets, has_tie, is_set, is_whole, need_web, without
 
 
 def can_stand_with(web, part, place):
@@ -13,10 +13,6 @@ def first_parts(web, some):
     for place in some[1:]:
         found = found + [part + (place,) for part in found if can_stand_with(web, part, place)]
     return found
-
-
-def without(some, part):
-    return tuple([place for place in some if place not in part])
 
 
 def highest_floor(web, floors, some):

@@ -82,6 +82,10 @@ def all_sets(n):
     return found
 
 
+def without(some, part):
+    return tuple([place for place in some if place not in part])
+
+
 def has_tie(web, one, other):
     return (min(one, other), max(one, other)) in web[1]
 

@@ -3,6 +3,7 @@
 import copy
 import time
 import unittest
+from math import gcd
 
 A_FEW_SECONDS = 5
 
@@ -70,6 +71,13 @@ class Checks(unittest.TestCase):
         for tie in ties:
             self.check_set(n, tie)
             self.assertEqual(len(tie), 2)
+
+    def check_fraction(self, told):
+        self.assertIs(type(told), tuple)
+        a, b = told
+        self.check_wholes(a, b)
+        self.assertGreaterEqual(b, 1)
+        self.assertEqual(gcd(a, b), 1)
 
     def check_soon(self, asked, *handed):
         begun = time.process_time()

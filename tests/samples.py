@@ -109,6 +109,28 @@ def no_sets(n):
     ]
 
 
+def no_wants(n):
+    good = (1,) * n
+    wrong = [-1, 100, 101, -10 ** 30, 10 ** 30, True, False, None, "", "1", (), (1,), (1, 1), [], [1], {}, {1: 1}]
+    return [good + (1,), good + (0,), good + (1, 1), good[1:] if n else (0,), good[2:] if n > 1 else (0, 0)] + [
+        good[:k] + (thing,) + good[k + 1:] for thing in wrong for k in range(n)
+    ] + [
+        list(good), [], [1], [0] * n, {}, {0: 1}, dict.fromkeys(range(n), 1), "", "1" * n, None, True, False, 0, 1, n,
+        -1, 10 ** 30, (good,), [good], (list(good),), [[[[[[]]]]]], ((((((),),),),),),
+    ]
+
+
+def no_fractions():
+    return [
+        (0, 0), (1, 0), (-1, 1), (-1, 2), (-10 ** 30, 1), (1, -1), (0, -1), (-1, -1), (1, -2), (1, 10 ** 9 + 1),
+        (0, 10 ** 9 + 1), (10 ** 9, 10 ** 9 + 1), (1, 10 ** 30), (True, 1), (False, 1), (1, True), (True, True),
+        (0, True), (None, 1), (1, None), (None, None), ("1", 1), (1, "2"), ("1", "2"), ((1,), 2), (1, (2,)),
+        ((2, 1), (1, 2)), ([1], 2), (1, [2]), ({}, 1), (1, {}), (), (1,), (1, 2, 3), (1, 1, 1), (0, 1, 1), ((1, 2),),
+        [], [1, 2], [1, 1], {}, {1: 2}, {0: 1, 1: 2}, "", "1", "12", "1/2", None, True, False, 0, 1, -1, 10 ** 30,
+        ((((((),),),),),), [[[[[[]]]]]],
+    ]
+
+
 def sets_of(n):
     return sorted(some for k in range(n + 1) for some in combinations(range(n), k))
 

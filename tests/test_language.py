@@ -33,6 +33,12 @@ FORBIDDEN_WORDS = set("""
     NamedTuple TypedDict TYPE_CHECKING abstractmethod
 """.split())
 
+METHODS = set("""
+    append clear copy count endswith extend find get index insert isalnum isalpha isdigit islower isspace isupper
+    items join keys ljust lower lstrip partition pop remove replace reverse rfind rjust rpartition rsplit rstrip
+    setdefault split splitlines startswith strip update upper values zfill bit_length
+""".split())
+
 FORBIDDEN_PARTS = ("dataclass", "overload", "contextmanager")
 
 
@@ -44,14 +50,46 @@ def package_trees():
     return [ast.parse(path.read_text(encoding="ascii"), path.name) for path in package_files()]
 
 
-def names_bound(tree):
+def names_given(tree):
     for node in ast.walk(tree):
-        if isinstance(node, (ast.FunctionDef, ast.ClassDef)):
-            yield node.name
-        elif isinstance(node, ast.arg):
+        if isinstance(node, ast.arg):
             yield node.arg
         elif isinstance(node, ast.Name) and isinstance(node.ctx, ast.Store):
             yield node.id
+
+
+def names_bound(tree):
+    yield from names_given(tree)
+    for node in ast.walk(tree):
+        if isinstance(node, (ast.FunctionDef, ast.ClassDef)):
+            yield node.name
+
+
+def imports_of(tree):
+    for node in ast.walk(tree):
+        if isinstance(node, ast.ImportFrom):
+            for alias in node.names:
+                yield node.module, alias.asname or alias.name
+
+
+def names_at_top(tree):
+    for node in tree.body:
+        if isinstance(node, (ast.FunctionDef, ast.ClassDef)):
+            yield node.name
+        elif isinstance(node, ast.Assign):
+            yield node.targets[0].id
+
+
+def methods_of(tree):
+    for node in ast.walk(tree):
+        if isinstance(node, ast.ClassDef):
+            yield from (part.name for part in node.body if isinstance(part, ast.FunctionDef))
+
+
+def values_of(tree):
+    for node in ast.walk(tree):
+        if isinstance(node, ast.Attribute) and isinstance(node.ctx, ast.Store):
+            yield node.attr
 
 
 class LanguageTest(unittest.TestCase):
@@ -95,6 +133,47 @@ class LanguageTest(unittest.TestCase):
                     self.assertEqual(node.level, 0)
                     self.assertTrue(node.module.startswith("hueshare."), node.module)
                     self.assertNotIn("*", [alias.name for alias in node.names])
+
+    def test_imports_from_the_file_that_defines_and_in_no_round(self):
+        trees = {"hueshare." + path.stem: ast.parse(path.read_text(encoding="ascii")) for path in package_files()}
+        drawn = {name: {module for module, alias in imports_of(tree)} for name, tree in trees.items()}
+        for tree in trees.values():
+            for module, alias in imports_of(tree):
+                self.assertIn(alias, list(names_at_top(trees[module])))
+        left = dict(drawn)
+        while left:
+            free = [name for name in left if not left[name] & set(left)]
+            self.assertTrue(free, left)
+            for name in free:
+                left.pop(name)
+
+    def test_no_local_is_called_like_an_import_or_a_class(self):
+        for tree in package_trees():
+            taken = {alias for module, alias in imports_of(tree)}
+            taken |= {node.name for node in tree.body if isinstance(node, ast.ClassDef)}
+            self.assertEqual(taken & set(names_given(tree)), set())
+
+    def test_each_name_once_at_the_top(self):
+        for tree in package_trees():
+            names = list(names_at_top(tree)) + [alias for module, alias in imports_of(tree)]
+            self.assertEqual(len(names), len(set(names)))
+
+    def test_is(self):
+        for tree in package_trees():
+            for node in ast.walk(tree):
+                if isinstance(node, ast.Compare) and isinstance(node.ops[0], (ast.Is, ast.IsNot)):
+                    self.assertIsInstance(node.comparators[0], ast.Constant)
+                    self.assertIn(node.comparators[0].value, (None, True, False))
+
+    def test_methods(self):
+        trees = package_trees()
+        own = {name for tree in trees for name in methods_of(tree)}
+        kept = {name for tree in trees for name in values_of(tree)}
+        self.assertEqual(own & kept, set())
+        for tree in trees:
+            for node in ast.walk(tree):
+                if isinstance(node, ast.Call) and isinstance(node.func, ast.Attribute):
+                    self.assertIn(node.func.attr, METHODS | own)
 
     def test_names_of_pythons_own(self):
         for tree in package_trees():

@@ -9,7 +9,7 @@ from hueshare.shapes import grown, picks, ring
 from tests import samples
 from tests.checks import Checks
 
-BEYOND_ALL = [-1, 0, 11, 12, 100, -10 ** 30, 10 ** 30]
+BEYOND_ALL = [-1, 0, 11, 12, 100, -10 ** 30, 10 ** 30, True, False]
 
 
 class RingTest(Checks):
