@@ -7,6 +7,10 @@ def count_ties_in(web, some):
     return len([tie for tie in web[1] if tie[0] in some and tie[1] in some])
 
 
+def are_all_tied(web, some):
+    return count_ties_in(web, some) == len(some) * (len(some) - 1) // 2
+
+
 def is_apart(web, some):
     need_web(web)
     need_set(web, some)
@@ -16,8 +20,7 @@ def is_apart(web, some):
 def is_crowd(web, some):
     need_web(web)
     need_set(web, some)
-    pairs = len(some) * (len(some) - 1) // 2
-    return count_ties_in(web, some) == pairs
+    return are_all_tied(web, some)
 
 
 def places_by_tie(web, place, tied):

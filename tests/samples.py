@@ -1,6 +1,7 @@
 """Webs to test with, things that are none, and plain looks to hold the answers against."""
 
 from itertools import combinations
+from random import Random
 
 
 def pairs(places):
@@ -44,6 +45,37 @@ def small_webs():
 def ten_place_webs():
     webs = [loose(10), whole(10), ring(10), path(10), petersen()]
     return webs + [mixed(10, m, r) for m in (3, 5, 7) for r in range(1, m)]
+
+
+def renamed(web, names):
+    return (web[0], tuple(sorted(tuple(sorted((names[i], names[j]))) for i, j in web[1])))
+
+
+def drawn_webs(sizes, seed):
+    # Each size with few, some and many ties; drawn alike each time.
+    chance = Random(seed)
+    webs = []
+    for n in sizes:
+        for part in range(1, 10):
+            webs.append((n, tuple(tie for tie in pairs(range(n)) if chance.randrange(10) < part)))
+    return webs
+
+
+def folded_webs(sizes, seed):
+    # Each place put is tied to a crowd, so there is no bare ring; then the places are named anew.
+    chance = Random(seed)
+    webs = []
+    for n in sizes:
+        for most in range(n):
+            ties = []
+            for place in range(n):
+                tied = []
+                for other in chance.sample(range(place), place):
+                    if len(tied) < most and all(tuple(sorted((other, third))) in ties for third in tied):
+                        tied.append(other)
+                ties.extend((other, place) for other in tied)
+            webs.append(renamed((n, tuple(ties)), chance.sample(range(n), n)))
+    return webs
 
 
 def some_webs():
