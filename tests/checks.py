@@ -5,6 +5,8 @@ import time
 import unittest
 from math import gcd
 
+from tests import samples
+
 A_FEW_SECONDS = 5
 
 
@@ -78,6 +80,18 @@ class Checks(unittest.TestCase):
         self.check_wholes(a, b)
         self.assertGreaterEqual(b, 1)
         self.assertEqual(gcd(a, b), 1)
+
+    def check_laying(self, web, laying):
+        self.assertIs(type(laying), list)
+        for share in laying:
+            self.assertIs(type(share), tuple)
+            some, fraction = share
+            self.check_set(web[0], some)
+            self.assertTrue(samples.plainly_apart(web, some), (web, some))
+            self.check_fraction(fraction)
+            self.assertGreater(fraction[0], 0)
+        sets = [some for some, fraction in laying]
+        self.assertEqual(sets, sorted(set(sets)))
 
     def check_soon(self, asked, *handed):
         begun = time.process_time()

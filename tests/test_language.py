@@ -41,6 +41,14 @@ METHODS = set("""
 
 FORBIDDEN_PARTS = ("dataclass", "overload", "contextmanager")
 
+WALKED = set("zip enumerate reversed range items keys values".split())
+WALKERS = set("list tuple dict sorted sum any all enumerate zip".split())
+
+KEYWORDS = {
+    "sorted": {"key", "reverse"}, "min": {"key", "default"}, "max": {"key", "default"}, "sum": {"start"},
+    "enumerate": {"start"}, "zip": {"strict"},
+}
+
 
 def package_files():
     return sorted(path for path in PACKAGE.rglob("*") if path.is_file() and "__pycache__" not in path.parts)
@@ -48,6 +56,44 @@ def package_files():
 
 def package_trees():
     return [ast.parse(path.read_text(encoding="ascii"), path.name) for path in package_files()]
+
+
+def with_parents(tree):
+    # Each step of a file with the one that it stands in.
+    for parent in ast.walk(tree):
+        for node in ast.iter_child_nodes(parent):
+            yield node, parent
+
+
+def called(node):
+    if not isinstance(node, ast.Call):
+        return None
+    return node.func.id if isinstance(node.func, ast.Name) else getattr(node.func, "attr", None)
+
+
+def is_walked_at_once(node, parent):
+    if isinstance(parent, (ast.For, ast.comprehension)):
+        return parent.iter is node
+    if called(parent) == "join":
+        return isinstance(parent.func.value, ast.Constant)
+    if called(parent) in ("min", "max"):
+        return len(parent.args) == 1
+    return called(parent) in WALKERS and parent.args[0] is node
+
+
+def is_set_asked_on_the_spot(node, parents):
+    parent = parents[node]
+    if isinstance(parent, ast.BinOp):
+        return is_set_asked_on_the_spot(parent, parents)
+    return isinstance(parent, ast.Compare) or called(parent) in ("sorted", "len")
+
+
+def is_plain_value(node):
+    if isinstance(node, (ast.List, ast.Tuple)):
+        return all(is_plain_value(part) for part in node.elts)
+    if isinstance(node, ast.Dict):
+        return all(is_plain_value(part) for part in node.keys + node.values)
+    return isinstance(node, (ast.Constant, ast.Name))
 
 
 def names_given(tree):
@@ -174,6 +220,66 @@ class LanguageTest(unittest.TestCase):
             for node in ast.walk(tree):
                 if isinstance(node, ast.Call) and isinstance(node.func, ast.Attribute):
                     self.assertIn(node.func.attr, METHODS | own)
+
+    def test_top_of_a_file(self):
+        for tree in package_trees():
+            for node in tree.body:
+                if isinstance(node, ast.Assign):
+                    self.assertTrue(is_plain_value(node.value), ast.unparse(node))
+                elif isinstance(node, ast.Expr):
+                    self.assertIsInstance(node.value, ast.Constant)
+                else:
+                    self.assertIsInstance(node, (ast.ImportFrom, ast.FunctionDef, ast.ClassDef))
+
+    def test_one_target_and_plain_comprehensions(self):
+        for tree in package_trees():
+            for node in ast.walk(tree):
+                if isinstance(node, ast.Assign):
+                    self.assertEqual(len(node.targets), 1)
+                    self.assertNotIsInstance(node.targets[0], (ast.Tuple, ast.List), ast.unparse(node))
+                if isinstance(node, ast.ListComp):
+                    self.assertEqual(len(node.generators), 1)
+                    self.assertLessEqual(len(node.generators[0].ifs), 1)
+                if isinstance(node, (ast.For, ast.While)):
+                    self.assertEqual(node.orelse, [])
+
+    def test_walked_at_once(self):
+        for tree in package_trees():
+            for node, parent in with_parents(tree):
+                if called(node) in WALKED:
+                    self.assertTrue(is_walked_at_once(node, parent), ast.unparse(parent))
+
+    def test_sets_are_not_kept(self):
+        for tree in package_trees():
+            parents = dict(with_parents(tree))
+            for node in parents:
+                if called(node) in ("set", "frozenset") or isinstance(node, ast.Set):
+                    self.assertTrue(is_set_asked_on_the_spot(node, parents), ast.unparse(parents[node]))
+
+    def test_keywords_at_pythons_own(self):
+        for tree in package_trees():
+            for node in ast.walk(tree):
+                if isinstance(node, ast.Call) and called(node) in BUILTINS | METHODS:
+                    given = {keyword.arg for keyword in node.keywords}
+                    self.assertLessEqual(given, KEYWORDS.get(called(node), set()), ast.unparse(node))
+
+    def test_texts_and_exponents(self):
+        for tree in package_trees():
+            for node in ast.walk(tree):
+                if isinstance(node, ast.Constant) and isinstance(node.value, str):
+                    self.assertNotIn("%", node.value)
+                if isinstance(node, ast.Constant):
+                    self.assertNotIsInstance(node.value, (float, bytes, complex))
+                if isinstance(node, ast.BinOp) and isinstance(node.op, ast.Pow):
+                    self.assertIsInstance(node.right, ast.Constant)
+
+    def test_errors_are_made_on_the_spot(self):
+        for tree in package_trees():
+            for node in ast.walk(tree):
+                if isinstance(node, ast.Raise):
+                    self.assertIsInstance(node.exc, ast.Call)
+                if isinstance(node, ast.FunctionDef):
+                    self.assertEqual(node.decorator_list, [])
 
     def test_names_of_pythons_own(self):
         for tree in package_trees():

@@ -2,13 +2,13 @@
 
 import unittest
 from fractions import Fraction
-from functools import cache
 from random import Random
 
 from hueshare.errors import NoWants, NoWeb
 from hueshare.shares import are_prices, is_enough, shares, value
 from tests import samples
 from tests.checks import Checks
+from tests.layings import plainly_enough, plainly_prices, total, worth_of
 
 MOST = 10 ** 9
 
@@ -19,33 +19,6 @@ def wants_for(n):
     told += [tuple(chance.randrange(100) for _ in range(n)) for _ in range(4)]
     told += [tuple(chance.choice((0, 0, 1, 50, 97, 99)) for _ in range(n)) for _ in range(4)]
     return sorted(set(told))
-
-
-def total(fractions):
-    return sum((Fraction(*fraction) for fraction in fractions), Fraction(0))
-
-
-def worth_of(wants, prices):
-    return sum((want * Fraction(*price) for want, price in zip(wants, prices)), Fraction(0))
-
-
-def got_by(laying, place):
-    return total(share for some, share in laying if place in some)
-
-
-def plainly_enough(web, wants, laying):
-    # Of a list of apart sets with fractions above nought.
-    return all(got_by(laying, place) >= want for place, want in enumerate(wants))
-
-
-@cache
-def apart_sets(web):
-    return [some for some in samples.sets_of(web[0]) if samples.plainly_apart(web, some)]
-
-
-def plainly_prices(web, prices):
-    exactly = [Fraction(*price) for price in prices]
-    return all(sum(exactly[place] for place in some) <= 1 for some in apart_sets(web))
 
 
 def told(fraction):
@@ -62,18 +35,6 @@ def webs_to_look_at():
 
 
 class SharesTest(Checks):
-    def check_laying(self, web, laying):
-        self.assertIs(type(laying), list)
-        for share in laying:
-            self.assertIs(type(share), tuple)
-            some, fraction = share
-            self.check_set(web[0], some)
-            self.assertTrue(samples.plainly_apart(web, some), (web, some))
-            self.check_fraction(fraction)
-            self.assertGreater(fraction[0], 0)
-        sets = [some for some, fraction in laying]
-        self.assertEqual(sets, sorted(set(sets)))
-
     def check(self, web, wants):
         answer = shares(web, wants)
         self.assertIs(type(answer), tuple)

@@ -213,22 +213,13 @@ class PulledTest(Checks):
                 if some is not None:
                     yield web, other, some
 
-    def check_laying(self, web, told):
-        self.assertIs(type(told), list)
-        for share in told:
-            self.assertIs(type(share), tuple)
-            some, fraction = share
-            self.check_set(web[0], some)
-            self.assertNotEqual(some, ())
-            self.assertTrue(samples.plainly_apart(web, some), (web, some))
-            self.check_fraction(fraction)
-
     def test_sets_and_sums(self):
         chance = Random(28)
         for web, other, some in self.cases():
             for laying in [drawn_laying(other, chance) for _ in range(6)] + [[], [((), (3, 6))]]:
                 told = pulled(web, other, some, laying)
                 self.check_laying(web, told)
+                self.assertNotIn((), [near for near, share in told])
                 self.assertEqual(told, plainly_pulled(web, some, laying), (web, other, some, laying))
                 self.check_told_alike(pulled, web, other, some, laying)
 
